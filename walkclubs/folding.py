@@ -1,0 +1,90 @@
+"""Folding: rings of ways, one for each walk, and the joinings of rooms that make a web of them."""
+
+from walkclubs.walks import straightened
+
+
+class Joined:
+    """Rooms of which some are one; the least of those that are one stands for all."""
+
+    def __init__(self, count):
+        self.toward = list(range(count))
+
+    def least(self, room):
+        """The least of the rooms that are one with a room."""
+        while self.toward[room] != room:
+            # Each look shortens the way for the next one.
+            self.toward[room] = self.toward[self.toward[room]]
+            room = self.toward[room]
+        return room
+
+    def unite(self, one, other):
+        """Makes two rooms one."""
+        one, other = self.least(one), self.least(other)
+        self.toward[max(one, other)] = min(one, other)
+
+
+class Fold:
+    """Ways whose rooms are joined until no letter leads from a room to two rooms, or from two to one."""
+
+    def __init__(self, count, ways):
+        self.ways = ways
+        self.joined = Joined(count)
+        self.doors = [{} for _ in range(count)]
+        self.joinings = []
+        for number, (first, letter, last) in enumerate(ways):
+            self.add_door(first, letter, number)
+            self.add_door(last, -letter, number)
+
+    def add_door(self, room, step, number):
+        """Lets a step lead from a room along the way of this number."""
+        doors = self.doors[self.joined.least(room)]
+        if step in doors:
+            self.join_ends(step, doors[step], number)
+        else:
+            doors[step] = number
+
+    def far_end(self, step, number):
+        """The room to which a step leads along the way of this number."""
+        first, _, last = self.ways[number]
+        return self.joined.least(last if step > 0 else first)
+
+    def join_ends(self, step, one, other):
+        """Joins the rooms to which a step leads along two ways, and all that must be joined then."""
+        waiting = [(step, one, other)]
+        while waiting:
+            step, one, other = waiting.pop()
+            kept, lost = sorted([self.far_end(step, one), self.far_end(step, other)])
+            if kept != lost:
+                self.joinings.append((min(one, other), max(one, other)))
+                self.joined.unite(kept, lost)
+                waiting.extend(self.move_doors(lost, kept))
+
+    def move_doors(self, lost, kept):
+        """Moves the doors of a room to another one; the list of (step, way, way) that meet there."""
+        doors = self.doors[kept]
+        met = []
+        for step, number in list(self.doors[lost].items()):
+            if step in doors:
+                met.append((step, doors[step], number))
+            else:
+                doors[step] = number
+        return met
+
+    def table(self):
+        """A dict that has, for each room that stands for itself, a dict of where each step leads."""
+        return {
+            room: {step: self.far_end(step, number) for step, number in doors.items()}
+            for room, doors in enumerate(self.doors) if self.joined.least(room) == room
+        }
+
+
+def petals_of(walks):
+    """The petals of walks: the number of rooms, and the list of all ways."""
+    count, ways = 1, []
+    for walk in walks:
+        steps = straightened(walk)
+        passed = [0] + list(range(count, count + len(steps) - 1)) + [0]
+        for step, room, ahead in zip(steps, passed, passed[1:]):
+            ways.append((room, step, ahead) if step > 0 else (ahead, -step, room))
+        count += max(0, len(steps) - 1)
+    return count, ways
