@@ -251,7 +251,7 @@ def look_at_refusals(case, function, *parameters):
     goods = [good for _, _, good in parameters]
     wrongs = [faults(kind, good) for _, kind, good in parameters]
     for at, bads in enumerate(wrongs):
-        behind = [rows[0][0] for rows in wrongs[at + 1:]]
+        behind = [rows[0][0] if rows else None for rows in wrongs[at + 1:]]
         for bad, error, value in bads:
             look_at_refusal(case, error, value, function, [*goods[:at], bad, *goods[at + 1:]])
             look_at_refusal(case, error, value, function, [*goods[:at], bad, *behind])

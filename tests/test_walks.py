@@ -103,6 +103,17 @@ class Cores(unittest.TestCase):
                 self.assertEqual(root(once), (once, 1))
                 self.assertEqual(many % times, 0)
 
+    def test_of_walks_that_are_not_straight(self):
+        rng = random.Random(8)
+        for _ in range(60):
+            walk, other = some_walk(2, rng.randrange(12), rng), some_walk(2, rng.randrange(6), rng)
+            for function in (core, root, least_turned):
+                look_at_answer(self, function(slow_straight(walk)), function, walk)
+            moved = slow_back(other) + walk + other
+            look_at_answer(self, turned_onto(slow_straight(walk), slow_straight(moved)), turned_onto, walk, moved)
+        look_at_answer(self, ((1,), 2), root, (1, 2, -2, 1))
+        look_at_answer(self, (1,), turned_onto, (1, 2, 2, -2), (2, 3, -3, 1))
+
     def test_root_of_all_short_ones(self):
         roots = {}
         for walk in all_straight_to(2, 3):

@@ -1,5 +1,6 @@
 """Folding: rings of ways, one for each walk, and the joinings of rooms that make a web of them."""
 
+from walkclubs.checks import check_letters, check_walks, is_integer
 from walkclubs.walks import straightened
 
 
@@ -88,3 +89,77 @@ def petals_of(walks):
             ways.append((room, step, ahead) if step > 0 else (ahead, -step, room))
         count += max(0, len(steps) - 1)
     return count, ways
+
+
+def is_pair(count, value):
+    """Whether any object is a tuple (i, k) of numbers below count, i less than k."""
+    if not isinstance(value, tuple) or len(value) != 2:
+        return False
+    one, other = value
+    return is_integer(one) and is_integer(other) and 0 <= one < other < count
+
+
+def ends_joined(joined, one, other):
+    """The two unlike rooms that two ways join; None if they join none."""
+    firsts = (joined.least(one[0]), joined.least(other[0]))
+    lasts = (joined.least(one[2]), joined.least(other[2]))
+    if one[1] != other[1]:
+        return None
+    if firsts[0] == firsts[1] and lasts[0] != lasts[1]:
+        return lasts
+    if lasts[0] == lasts[1] and firsts[0] != firsts[1]:
+        return firsts
+    return None
+
+
+def is_joined(joined, ways):
+    """Whether no letter leads from a room to two rooms, or from two to one."""
+    ends = {}
+    for first, letter, last in ways:
+        first, last = joined.least(first), joined.least(last)
+        if ends.setdefault((first, letter), last) != last or ends.setdefault((last, -letter), first) != first:
+            return False
+    return True
+
+
+def petals(letters, walks):
+    """The petals of a list of walks: the tuple (number of rooms, list of all ways)."""
+    check_letters(letters)
+    check_walks(letters, walks)
+    return petals_of(walks)
+
+
+def joinings(letters, walks):
+    """A list of joinings of the petals of a list of walks, behind which no two ways are to be joined."""
+    check_letters(letters)
+    check_walks(letters, walks)
+    count, ways = petals_of(walks)
+    return Fold(count, ways).joinings
+
+
+def joinings_hold(letters, walks, value):
+    """Whether any object is a list of joinings, behind which no two ways are to be joined."""
+    check_letters(letters)
+    check_walks(letters, walks)
+    if not isinstance(value, list):
+        return False
+    count, ways = petals_of(walks)
+    joined = Joined(count)
+    for pair in value:
+        ends = ends_joined(joined, ways[pair[0]], ways[pair[1]]) if is_pair(len(ways), pair) else None
+        if ends is None:
+            return False
+        joined.unite(ends[0], ends[1])
+    return is_joined(joined, ways)
+
+
+def joined_rooms(letters, walks):
+    """The ascending list of the ascending lists of the rooms of the petals that are one behind all joinings."""
+    check_letters(letters)
+    check_walks(letters, walks)
+    count, ways = petals_of(walks)
+    joined = Fold(count, ways).joined
+    alike = {}
+    for room in range(count):
+        alike.setdefault(joined.least(room), []).append(room)
+    return list(alike.values())
