@@ -38,14 +38,16 @@ BAD_WEBS = [
     (True, ((0,),)), (False, ((),)), (0, ((),)), (5, ((0,) * 5,)), (-1, ((0,),)), (None, ((0,),)), ("2", ((0, 0),)),
     (2, None), (2, ()), (2, []), (2, [(0, 0)]), (2, ([0, 0],)), (2, ((0, 0), [0, 0])), (2, "00"), (2, (0, 0)),
     (2, ((0,),)), (2, ((0, 0, 0),)), (2, ((0, 0), (0,))), (1, ((),)),
-    (1, ((True,), (False,))), (1, ((False,),)), (2, ((0, None),)), (2, ((0, "0"),)), (2, ((0, [0]),)), (2, ((0, (0,)),)),
+    (1, ((True,), (False,))), (1, ((False,),)), (2, ((0, None),)), (2, ((0, "0"),)), (2, ((0, [0]),)),
+    (2, ((0, (0,)),)),
     (1, ((1,),)), (1, ((-2,),)), (2, ((1, 0), (0, 2))), (2, ((0, -1), (-1, -2))),
     # a letter from two rooms to one; a room that is not reached, with ways and without
     (1, ((0,), (0,))), (2, ((1, 0), (1, -1))), (2, ((0, 0), (1, 1))), (2, ((0, 0), (-1, -1))), (1, ((-1,), (1,))),
     # a room but home from which one step leads
     (1, ((1,), (-1,))), (2, ((1, 0), (-1, -1))), (2, ((1, -1), (2, 1), (-1, -1))),
     # rooms that are not numbered by their first ways
-    (2, ((2, 1), (0, 2), (1, 0))), (1, ((2,), (0,), (1,))), (2, ((2, -1), (2, 0), (-1, 1))), (3, ((0, 2, 1), (1, 0, 2), (2, 1, 0))),
+    (2, ((2, 1), (0, 2), (1, 0))), (1, ((2,), (0,), (1,))), (2, ((2, -1), (2, 0), (-1, 1))),
+    (3, ((0, 2, 1), (1, 0, 2), (2, 1, 0))),
 ]
 
 
@@ -87,7 +89,9 @@ def renumbered(letters, table):
                     ways[after] = walk
                     changed = True
     order = sorted(ways, key=lambda room: slow_key(ways[room]))
-    rows = [tuple(order.index(table[room][a]) if a in table[room] else -1 for a in range(1, letters + 1)) for room in order]
+    rows = [
+        tuple(order.index(table[room][a]) if a in table[room] else -1 for a in range(1, letters + 1)) for room in order
+    ]
     return letters, tuple(rows)
 
 

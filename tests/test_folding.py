@@ -130,7 +130,8 @@ class Joinings(unittest.TestCase):
             wrongs = [told + told[:1], told[:-1], told[1:], told[::-1], told + [(0, many)], [(-1, 0)] + told]
             for at in range(len(told)):
                 other = tuple(sorted(rng.sample(range(many), 2)))
-                wrongs += [told[:at] + [other] + told[at + 1:], told[:at] + told[at + 1:], told[:at] + [other] + told[at:]]
+                wrongs += [told[:at] + [other] + told[at + 1:], told[:at] + [other] + told[at:]]
+                wrongs.append(told[:at] + told[at + 1:])
                 wrongs.append(told[:at] + [told[at][::-1]] + told[at + 1:])
             for value in wrongs:
                 expected = slow_holds(walks, value)

@@ -15,14 +15,16 @@ BUILTINS = set(
     " ValueError None True False".split()
 )
 METHODS = set(
-    "append clear copy count endswith extend find get index insert items join keys pop remove replace reverse setdefault"
-    " split startswith strip update values bit_length add discard".split()
+    "append clear copy count endswith extend find get index insert items join keys pop remove replace reverse"
+    " setdefault split startswith strip update values bit_length add discard".split()
 )
 NODES_NOT_USED = (
     ast.Global, ast.Nonlocal, ast.AsyncFunctionDef, ast.Await, ast.GeneratorExp, ast.NamedExpr, ast.Div, ast.Try,
     ast.With, ast.Yield, ast.YieldFrom, ast.AnnAssign, ast.Starred,
 )
-WORDS_NOT_USED = r"\b(type|typing|enum|Enum|Generic|Protocol|ABC|namedtuple|register|mro|elements|open|input|law|eval|exec|vars)\b"
+WORDS_NOT_USED = (
+    r"\b(type|typing|enum|Enum|Generic|Protocol|ABC|namedtuple|register|mro|elements|open|input|law|eval|exec|vars)\b"
+)
 
 
 def bound_names(tree):

@@ -12,7 +12,9 @@ from walkclubs.walks import (
     back, behind, commute, core, is_walk, least_turned, power, root, straight, turned, turned_onto,
 )
 
-EDGES = [(), (1,), (-4,), (1, -1), (2, 1, -1, -2), (4, -4, 4), (1, 2, -2, -1, 3), (1,) * 60, (1, -1) * 30, (3, -4) * 200]
+EDGES = [
+    (), (1,), (-4,), (1, -1), (2, 1, -1, -2), (4, -4, 4), (1, 2, -2, -1, 3), (1,) * 60, (1, -1) * 30, (3, -4) * 200,
+]
 
 
 def walks_to_try(seed, many=60, longest=60):
