@@ -4,7 +4,9 @@ import copy
 import itertools
 import random
 
-from walkclubs.errors import InvalidLetters, InvalidNumber, InvalidWalk, InvalidWeb, InvalidWriting
+from walkclubs.errors import (
+    InvalidBook, InvalidLetters, InvalidNumber, InvalidShort, InvalidWalk, InvalidWalks, InvalidWeb, InvalidWriting,
+)
 
 HALF = (2, ((1, 0), (0, -1)))
 EVEN = (2, ((1, 0), (0, 1)))
@@ -48,6 +50,35 @@ BAD_WEBS = [
     # rooms that are not numbered by their first ways
     (2, ((2, 1), (0, 2), (1, 0))), (1, ((2,), (0,), (1,))), (2, ((2, -1), (2, 0), (-1, 1))),
     (3, ((0, 2, 1), (1, 0, 2), (2, 1, 0))),
+]
+
+# Of two letters.
+BAD_SHORTS = [bad for bad in ODD_OBJECTS if bad != ()] + [
+    [((1,), 1)], (((1,), 1),) * 61, ((1,), 1), ([(1,), 1],), (((1,), 1), [(1,), 1]), (((1,),),), (((1,), 1, 1),),
+    (([1], 1),), (((1, 2), 3), ([1], [2])), ((((1,),), 1),), (((1,), 0),), (((1,), 1), ((2,), 0)), (((), 0),),
+    (((1,), True),), (((1,), False),), (((1,), None),), (((1,), "1"),), (((1,), (1,)),), (((1,), [1]),),
+    (((1,), 10 ** 30 + 1),), (((1,), -10 ** 30 - 1),), (((), 10 ** 60),), (((True,), 1),), (((0,), 1),),
+    (((3,), 1),), (((-3, 3), 1),), (((1,), 5), ((1, 5), 1)), ((None, 1),), (("1", 1),), ((1, 1),), ({},), (((1,), {}),),
+]
+
+BAD_BOOKS = [bad for bad in ODD_OBJECTS if bad != ()] + [
+    (), (2,), (2, ()), (2, ((0,), (0,)), 0), [2, ((0,), (0,))], (2, [(0,), (0,)]), (2, ([0], (0,))), (2, ([0], [0])),
+    (True, ((0,),)), (False, ()), (0, ()), (5, ((0,),) * 5), (-1, ((0,),)), (None, ((0,),)), ("1", ((0,),)),
+    ([1], ((0,),)),
+    (1, ((0,), (0,))), (2, ((0,),)), (2, ((0,), (0,), (0,))), (1, ((),)), (2, ((), ())), (2, ((0, 1), (0,))),
+    (2, ((0,), (0, 1))), (2, ((0, 1), ())), (1, (tuple(range(41)),)), (2, (tuple(range(41)),) * 2),
+    (1, ((0, 0),)), (1, ((1, 1),)), (1, ((1, 2),)), (1, ((0, 2),)), (1, ((-1, 0),)), (1, ((0, -1),)), (1, ((1,),)),
+    (2, ((0, 1, 2), (0, 1, 1))), (2, ((0, 1, 2), (2, 0, 3))), (1, ((False,),)), (1, ((False, True),)),
+    (1, ((0, True),)),
+    (1, ((0, None),)), (1, ((0, "1"),)), (1, ((0, [1]),)), (1, ((0, (1,)),)), (1, (None,)), (1, ("0",)), (1, (0,)),
+    (1, None), (1, "0"), (1, {0: (0,)}), (1, ({0: 0},)), (2, ((1, 0), (0, -1))),
+]
+
+# Of two letters.
+BAD_PAPER_WALKS = [bad for bad in ODD_OBJECTS if bad != ((1,),)] + [
+    (), [(1,)], ([1],), ((1,), [2]), ((1,),) * 5, ((),) * 5, ((3,),), ((1,), (2, -3)), ((1,), None), ((1, True),),
+    ((0,),),
+    (((1,),),), ((1,), (2,), (1, 2), ([1],)), {(1,): 1}, "1",
 ]
 
 
@@ -243,6 +274,12 @@ def faults(kind, good):
         return [(row, InvalidWalk, bad) for row, bad in zip(rows, bads)]
     if kind == "web":
         return [(bad, InvalidWeb, bad) for bad in BAD_WEBS]
+    if kind in ("short", "book", "paper walks"):
+        bads, error = {
+            "short": (BAD_SHORTS, InvalidShort), "book": (BAD_BOOKS, InvalidBook),
+            "paper walks": (BAD_PAPER_WALKS, InvalidWalks),
+        }[kind]
+        return [(bad, error, bad) for bad in bads]
     if kind == "writing":
         bads = [*ODD_OBJECTS, (len(good) + 4,), (1, -5)]
         return [(bad, InvalidWriting, bad) for bad in bads]

@@ -6,6 +6,9 @@ import pathlib
 import re
 import unittest
 
+# What may come from Python's library, and how many arguments each takes.
+LIBRARY = {"math": {"gcd": 2, "lcm": 2, "factorial": 1}, "itertools": {"permutations": 2}}
+
 FOLDER = pathlib.Path(__file__).resolve().parent.parent / "walkclubs"
 FILES = sorted(path for path in FOLDER.iterdir() if path.name != "__pycache__")
 TREES = {path.name: ast.parse(path.read_text()) for path in FILES}
@@ -77,7 +80,10 @@ class Language(unittest.TestCase):
             defined = {node.name for node in tree.body if isinstance(node, (ast.FunctionDef, ast.ClassDef))}
             for node in ast.walk(tree):
                 self.assertNotIsInstance(node, ast.Import, name)
-                if isinstance(node, ast.ImportFrom):
+                if isinstance(node, ast.ImportFrom) and node.module in LIBRARY:
+                    self.assertIn(node, tree.body)
+                    self.assertLessEqual({part.name for part in node.names}, set(LIBRARY[node.module]), name)
+                elif isinstance(node, ast.ImportFrom):
                     self.assertIn(node, tree.body)
                     package, _, module = node.module.partition(".")
                     self.assertEqual(package, "walkclubs", name)
@@ -90,9 +96,25 @@ class Language(unittest.TestCase):
                 self.assertNotIn(imported, defined)
                 self.assertGreater(words.count(imported), 1, f"{name}: {imported} is imported for nothing")
 
+    def test_the_library_is_called_plainly(self):
+        takes = {word: count for words in LIBRARY.values() for word, count in words.items()}
+        for name, tree in TREES.items():
+            used = set(takes) & set(imported_names(tree))
+            called = [
+                node.func for node in ast.walk(tree)
+                if isinstance(node, ast.Call) and isinstance(node.func, ast.Name) and node.func.id in used
+                and len(node.args) == takes[node.func.id] and not node.keywords
+            ]
+            for node in ast.walk(tree):
+                if isinstance(node, ast.Name) and node.id in used:
+                    self.assertTrue(any(node is func for func in called), f"{name}: {node.id}")
+
     def test_no_circles(self):
         wanted = {
-            name: {node.module.split(".")[1] + ".py" for node in tree.body if isinstance(node, ast.ImportFrom)}
+            name: {
+                node.module.split(".")[1] + ".py" for node in tree.body
+                if isinstance(node, ast.ImportFrom) and node.module not in LIBRARY
+            }
             for name, tree in TREES.items()
         }
         while wanted:

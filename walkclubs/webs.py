@@ -36,10 +36,10 @@ def step_table(rows):
     return table
 
 
-def first_reached(letters, table):
+def first_reached(letters, table, home=0):
     """A dict of the rooms by the order of their first ways: each has the room and the step ahead of it."""
-    reached = {0: None}
-    found = [0]
+    reached = {home: None}
+    found = [home]
     steps = steps_of(letters)
     place = 0
     while place < len(found):
@@ -63,9 +63,18 @@ def first_ways(letters, table):
     return ways
 
 
-def numbered(letters, table):
-    """The web of a table of steps, its rooms numbered in the order of their first ways."""
-    number = {room: place for place, room in enumerate(first_reached(letters, table))}
+def way_to(reached, room):
+    """The first way of a room, of those that are reached."""
+    steps = []
+    while reached[room] is not None:
+        room, step = reached[room]
+        steps.append(step)
+    return tuple(steps[::-1])
+
+
+def numbered(letters, table, home=0):
+    """The web of a table of steps, its rooms numbered in the order of their first ways from home."""
+    number = {room: place for place, room in enumerate(first_reached(letters, table, home))}
     rows = []
     for room in number:
         steps = table[room]
@@ -111,6 +120,31 @@ def end_of(table, room, walk):
     """The room to which a straight walk leads from a room; None if to none."""
     reached, count = gone(table, room, walk)
     return reached if count == len(walk) else None
+
+
+def lengthened(table, walks):
+    """The tuple (table, ends): that of a web and of new rooms where walks leave it, and where each walk ends."""
+    wider = [dict(steps) for steps in table]
+    ends = []
+    for walk in walks:
+        room = 0
+        for step in straightened(walk):
+            if step not in wider[room]:
+                wider[room][step] = len(wider)
+                wider.append({-step: room})
+            room = wider[room][step]
+        ends.append(room)
+    return wider, ends
+
+
+def is_laid_into(web, table, wider):
+    """Whether all walks that belong to a web, with its table, belong to the web of another table."""
+    # They do exactly if its rooms can be laid onto rooms of the other one, home onto home, so that each way lies on
+    # a way.
+    laid = [end_of(wider, 0, walk) for walk in first_ways(web[0], table)]
+    if None in laid:
+        return False
+    return all([wider[laid[room]].get(letter) == laid[after] for room, letter, after in ways_of(web)])
 
 
 def ways_of(web):
@@ -224,9 +258,4 @@ def contains(web, other):
     table = checked_table(web)
     other_table = checked_table(other)
     check_alike(web, other)
-    # The walks of the other web stay in the one exactly if its rooms can be laid onto rooms of
-    # the one, home onto home, so that each way lies on a way.
-    laid = [end_of(table, 0, walk) for walk in first_ways(other[0], other_table)]
-    if None in laid:
-        return False
-    return all([table[laid[room]].get(letter) == laid[after] for room, letter, after in ways_of(other)])
+    return is_laid_into(other, other_table, table)
