@@ -126,6 +126,14 @@ def renumbered(letters, table):
     return letters, tuple(rows)
 
 
+def slow_led(book, place, walk):
+    """The place to which a walk leads a place of a book, step by step."""
+    for step in walk:
+        turn = book[1][abs(step) - 1]
+        place = turn[place] if step > 0 else turn.index(place)
+    return place
+
+
 def slow_key(walk):
     return len(walk), tuple(slow_steps(4).index(step) for step in walk)
 

@@ -164,6 +164,21 @@ class Language(unittest.TestCase):
                     keywords = {word.arg for word in node.keywords}
                     self.assertLessEqual(keywords, {"key", "reverse", "default", "start", "strict"}, name)
 
+    def test_what_is_kept_is_gone_over_plainly(self):
+        once = {"zip", "enumerate", "reversed"}
+        for name, tree in TREES.items():
+            for function in ast.walk(tree):
+                if isinstance(function, ast.FunctionDef):
+                    kept = {
+                        node.targets[0].id for node in ast.walk(function)
+                        if isinstance(node, ast.Assign) and isinstance(node.targets[0], ast.Name)
+                        and isinstance(node.value, ast.Call) and getattr(node.value.func, "id", None) in once
+                    }
+                    for node in ast.walk(function):
+                        if isinstance(node, ast.Call) and getattr(node.func, "id", None) in once:
+                            words = {part.id for part in node.args if isinstance(part, ast.Name)}
+                            self.assertFalse(words & kept, f"{name}: {function.name}")
+
     def test_one_docstring_for_each_file(self):
         for name, tree in TREES.items():
             self.assertTrue(ast.get_docstring(tree), name)

@@ -6,7 +6,7 @@ import unittest
 
 from tests.helpers import (
     BAD_BOOKS, EVEN, HALF, NOTHING, ODD_OBJECTS, WHOLE, all_straight, look_at_answer, look_at_lists, look_at_refusals,
-    slow_room, slow_straight, some_straight, some_walk, some_web,
+    slow_led, slow_room, slow_straight, some_straight, some_walk, some_web,
 )
 from walkclubs.bases import basis
 from walkclubs.papers import least_paper, paper, paper_holds, paper_places
@@ -16,13 +16,6 @@ from walkclubs.webs import nothing, web_of, whole
 TWELVE = some_web(2, 12, random.Random(70))
 FORTY = some_web(4, 40, random.Random(72))
 SIXTY = some_web(4, 60, random.Random(80))
-
-
-def slow_led(book, place, walk):
-    for step in walk:
-        turn = book[1][abs(step) - 1]
-        place = turn[place] if step > 0 else turn.index(place)
-    return place
 
 
 def is_paper(web, walks, book):

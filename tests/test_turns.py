@@ -7,7 +7,7 @@ import unittest
 
 from tests.helpers import (
     BAD_BOOKS, EVEN, HALF, NOTHING, ODD_OBJECTS, WHOLE, all_straight_to, look_at_answer, look_at_refusal,
-    look_at_refusals, renumbered, slow_back, slow_room, slow_steps, some_straight, some_walk, some_web,
+    look_at_refusals, renumbered, slow_back, slow_led, slow_room, slow_steps, some_straight, some_walk, some_web,
 )
 from walkclubs.bases import basis
 from walkclubs.errors import OpenDoor, TooMany
@@ -30,14 +30,6 @@ def some_books(seed):
     rng = random.Random(seed)
     books = [some_book(letters, count, rng) for letters in (1, 2, 3, 4) for count in (1, 2, 3, 5, 8, 12, 40)]
     return [THREE, ONE, FORTY, SIX, (4, ((0,),) * 4), *books]
-
-
-def slow_led(book, place, walk):
-    """The place to which a walk leads a place, step by step."""
-    for step in walk:
-        turn = book[1][abs(step) - 1]
-        place = turn[place] if step > 0 else turn.index(place)
-    return place
 
 
 def slow_turn(book, walk):

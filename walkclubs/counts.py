@@ -15,7 +15,7 @@ class Homeward:
     """How many straight walks lead home from each room: by their lengths, and by their first steps, too."""
 
     def __init__(self, table):
-        self.table = table
+        self.doors = table
         self.totals = [1] + [0] * (len(table) - 1)
         self.by_steps = [{step: 0 for step in steps} for steps in table]
         self.levels = [(self.totals, self.by_steps)]
@@ -25,7 +25,7 @@ class Homeward:
         # What goes on straight behind a step is all that goes on, but what begins with the opposite one.
         self.by_steps = [
             {step: self.totals[after] - self.by_steps[after][-step] for step, after in steps.items()}
-            for steps in self.table
+            for steps in self.doors
         ]
         self.totals = [sum(list(many.values())) for many in self.by_steps]
 
@@ -58,7 +58,7 @@ class Homeward:
                 number -= choices[at][1]
                 at += 1
             last = choices[at][0]
-            room = self.table[room][last]
+            room = self.doors[room][last]
             walk.append(last)
         return tuple(walk)
 
@@ -70,9 +70,9 @@ class Homeward:
         for at, step in enumerate(walk):
             choices = self.choices(room, last, len(walk) - at)
             number += sum([many for other, many in choices if step_place(other) < step_place(step)])
-            if step not in self.table[room]:
+            if step not in self.doors[room]:
                 return number
-            room, last = self.table[room][step], step
+            room, last = self.doors[room][step], step
         return number
 
 
@@ -133,8 +133,9 @@ def keeps_rule(numbers, factors):
 def shortest_rule(table):
     """The factors of the shortest rule that the numbers of members of the lengths from 1 on keep."""
     # All numbers of a length, by rooms, come of those of the two lengths ahead, so that some rule has two factors for
-    # each room: what holds for twice as many lengths behind a rule's first ones holds for all. The shortest rule has
-    # integers, far below the prime numbers; it is not shorter than what is found but for multiples of one of these.
+    # each room: what holds for as many lengths behind a rule's first ones holds for all. The shortest rule has
+    # integers, far below the prime numbers. What is found but for multiples of one is never longer than it: if the
+    # numbers themselves keep that, it is the shortest rule; if not, the prime number was an unlucky one.
     numbers = member_numbers(table, 4 * len(table))[1:]
     factors = []
     for exponent in PRIME_EXPONENTS:
@@ -260,8 +261,9 @@ def first_unlike_length(one, other):
     other_table = checked_table(other)
     # Both numbers, and so their differences, keep a rule with two factors for each room of both webs.
     length = 2 * (len(table) + len(other_table))
-    pairs = zip(member_numbers(table, length), member_numbers(other_table, length))
-    unlike = [place for place, (many, other_many) in enumerate(pairs) if many != other_many]
+    many = member_numbers(table, length)
+    other_many = member_numbers(other_table, length)
+    unlike = [place for place in range(length + 1) if many[place] != other_many[place]]
     return unlike[0] if unlike else None
 
 
