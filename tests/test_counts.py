@@ -332,6 +332,11 @@ class Lengths(unittest.TestCase):
         look_at_answer(self, ([], 0, 1, [0]), lengths, web_of(2, [(1,)]))
         look_at_answer(self, ([0], 3, 1, [0]), lengths, web_of(2, [(1, 2, -1)]))
         look_at_answer(self, ([0], 3, 2, [0]), lengths, web_of(2, [(1, 2, 2, -1)]))
+        # All members come home by one step, whichever it is.
+        for step in slow_steps(4):
+            ring = 1 if abs(step) > 1 else 2
+            look_at_answer(self, ([0], 3, 1, [0]), lengths, web_of(4, [(step, ring, -step)]))
+            look_at_answer(self, ([0], 3, 3, [2]), lengths, web_of(4, [(step, ring, ring, ring, -step)]))
         early, begin, once, late = lengths(RINGS)
         # Sums of 29 and 31, of which 29 * 31 - 29 - 31 is the last length that none is, and of both forward and back.
         sums = sorted({29 * a + 31 * b for a in range(40) for b in range(40)})
@@ -373,6 +378,11 @@ class Shares(unittest.TestCase):
             look_at_answer(self, [told, (0, 1)], shares, web)
             if count < 20:
                 self.look(web, 400)
+        # Around a ring of odd many rooms no sides can be told.
+        for count in (3, 5, 7, 9, 39):
+            for steps in ((1, 1), (1, count - 1), (2, 1)):
+                turns = [[(place + far) % count for place in range(count)] for far in steps]
+                look_at_answer(self, [(1, count)], shares, web_of_turns(2, turns))
         look_at_answer(self, [(1, 1), (0, 1)], shares, meet(TWOS, TWOS))
         look_at_answer(self, [(1, 2), (0, 1)], shares, meet(TWOS, EVEN))
         look_at_answer(self, [(1, 3)], shares, (2, ((1, 0), (0, 2), (2, 1))))

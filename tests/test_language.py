@@ -7,7 +7,7 @@ import re
 import unittest
 
 # What may come from Python's library, and how many arguments each takes.
-LIBRARY = {"math": {"gcd": 2, "lcm": 2, "factorial": 1}, "itertools": {"permutations": 2}}
+LIBRARY = {"math": {"lcm": 2, "factorial": 1}, "itertools": {"permutations": 2}}
 
 FOLDER = pathlib.Path(__file__).resolve().parent.parent / "walkclubs"
 FILES = sorted(path for path in FOLDER.iterdir() if path.name != "__pycache__")

@@ -1,7 +1,5 @@
 """Numbers of members, the straight walks that belong to a web: by lengths, in their order, and as a part of all."""
 
-from math import gcd
-
 from walkclubs.checks import MOST_LETTERS, check_least, check_walk
 from walkclubs.cosets import is_closed
 from walkclubs.walks import once_round, step_place, straightened
@@ -105,7 +103,8 @@ def taken_away(one, factor, other, prime):
 
 def rule_but_for(numbers, prime):
     """The factors of the shortest rule that numbers keep but for multiples of a prime number."""
-    # Each time that the factors fail they are mended by those that failed last ahead of a longer rule.
+    # Each time that the factors fail they are mended by those that failed last ahead of a longer rule. They are always
+    # one more than the rule is long, as the first of them stands for the number that is told.
     factors, earlier, length, earlier_miss, shift = [1], [1], 0, 1, 1
     for place, number in enumerate(numbers):
         before = numbers[place - len(factors) + 1:place][::-1]
@@ -117,7 +116,6 @@ def rule_but_for(numbers, prime):
                 length, earlier, earlier_miss, shift = place + 1 - length, factors, miss, 0
             factors = mended
         shift += 1
-    factors += [0] * (length + 1 - len(factors))
     return [-factor if 2 * factor < prime else prime - factor for factor in factors[1:]]
 
 
@@ -317,7 +315,5 @@ def shares(web):
     if web[0] == 1:
         # Along one letter there are but two walks of a length: they come home behind each round.
         return [(1, 1)] + [(0, 1)] * (count - 1)
-    # Long walks come to all rooms alike, or, if the rooms have two sides, to all those of one side.
-    if has_two_sides(table):
-        return [(2 // gcd(2, count), count // gcd(2, count)), (0, 1)]
-    return [(1, count)]
+    # Long walks come to all rooms alike, or, if the rooms have two sides, to all those of one side: to half of them.
+    return [(1, count // 2), (0, 1)] if has_two_sides(table) else [(1, count)]
