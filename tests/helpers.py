@@ -4,9 +4,12 @@ import copy
 import itertools
 import random
 
+from walkclubs.bases import basis
 from walkclubs.errors import (
-    InvalidBook, InvalidLetters, InvalidNumber, InvalidShort, InvalidWalk, InvalidWalks, InvalidWeb, InvalidWriting,
+    InvalidBook, InvalidLetters, InvalidNumber, InvalidRows, InvalidSending, InvalidShort, InvalidSums, InvalidWalk,
+    InvalidWalks, InvalidWeb, InvalidWriting,
 )
+from walkclubs.webs import nothing, web_of, whole
 
 HALF = (2, ((1, 0), (0, -1)))
 EVEN = (2, ((1, 0), (0, 1)))
@@ -79,6 +82,29 @@ BAD_PAPER_WALKS = [bad for bad in ODD_OBJECTS if bad != ((1,),)] + [
     (), [(1,)], ([1],), ((1,), [2]), ((1,),) * 5, ((),) * 5, ((3,),), ((1,), (2, -3)), ((1,), None), ((1, True),),
     ((0,),),
     (((1,),),), ((1,), (2,), (1, 2), ([1],)), {(1,): 1}, "1",
+]
+
+# Of two letters.
+BAD_SUMS = [bad for bad in ODD_OBJECTS if bad != (0, 0)] + [
+    (), (1,), (1, 2, 3), [1, 2], (1, None), ("1", 2), (True, 1), (1, False), ([1], 2), (1, [2]), ((1,), (2,)), {1: 2},
+    ((1, 2),), [(1, 2)], "12",
+]
+
+# Of two letters; the last ones have endlessly many classes, or more than 60.
+BAD_ROWS = [bad for bad in ODD_OBJECTS if bad != []] + [
+    ((1, 0), (0, 1)), {(1, 0): (0, 1)}, [(1, 0), [0, 1]], [(1, 0), (0, 1), ()], [(1, 0), (0, 1, 0)], [(1,), (0, 1)],
+    [(1, 0), (0, True)], [(False, 1), (1, 0)], [(1, 0), (0, 1), None], [(1, 0), (0, 1), "01"], [[1, 0], [0, 1]],
+    [(1, 0), (0, [1])], [(1, 0), 1], [(1, 0), ((0, 1),)], [[(1, 0), (0, 1)]],
+    [], [(0, 0)], [(1, 0)], [(0, 1), (0, 2)], [(2, 4), (3, 6), (-1, -2), (0, 0)], [(61, 0), (0, 1)], [(1, 0), (7, 61)],
+    [(8, 0), (0, 8)], [(10 ** 59, 0), (0, 1)], [(2, 3), (10 ** 30, -1)],
+]
+
+BAD_SENDINGS = [bad for bad in ODD_OBJECTS if bad != ()] + [
+    (), (2,), (2, ()), (2, ((1,), (2,)), 0), [2, ((1,), (2,))], (2, [(1,), (2,)]), (2, ([1], (2,))), (2, ((1,), [2])),
+    (True, ((1,),)), (False, ()), (0, ()), (0, ((),)), (5, ((1,),)), (-1, ((1,),)), (None, ((1,),)), ("2", ((1,),)),
+    (2, None), (2, "12"), (2, (1, 2)), (2, {1: (1,)}), (2, ({},)), (2, ((1,),) * 5), (4, ((),) * 5), ([2], ((1,),)),
+    (2, ((1,), (3,))), (2, ((1,), (-3, 3))), (2, ((0,),)), (2, ((True,),)), (2, ((1, None),)), (1, ((1,), (2,))),
+    (2, (((1,),),)), (4, ((5,),)), (2, ((1,), "2")), (2, ((1,), None)), (2, (((1,), 1),)),
 ]
 
 
@@ -248,6 +274,19 @@ def told_alike(one, other):
     return repr(one) == repr(other)
 
 
+def webs_with(letters, seed, many=10):
+    """Webs of so many letters, with open doors and without, that of `()` alone and that of all walks."""
+    rng = random.Random(seed)
+    folded = [web_of(letters, walks) for walks in some_lists(letters, many, seed, 5)]
+    closed = [some_web(letters, count, rng) for count in (1, 2, 3, 5)] if letters > 1 else [whole(1)]
+    return [*folded, *closed, nothing(letters), whole(letters)]
+
+
+def turned_by(web, walk):
+    """The web of all walks back the walk, then one of the club, then the walk."""
+    return web_of(web[0], [slow_back(walk) + member + walk for member in basis(web)])
+
+
 def look_at_lists(case, value, arguments):
     """All lists in a value are new, and in one place alone."""
     ids = [id(row) for row in lists_in(value)]
@@ -269,6 +308,13 @@ def look_at_refusal(case, error, value, function, arguments, names=None):
     case.assertTrue(told_alike(arguments, before))
 
 
+KINDS = {
+    "web": (BAD_WEBS, InvalidWeb), "short": (BAD_SHORTS, InvalidShort), "book": (BAD_BOOKS, InvalidBook),
+    "paper walks": (BAD_PAPER_WALKS, InvalidWalks), "sums": (BAD_SUMS, InvalidSums), "rows": (BAD_ROWS, InvalidRows),
+    "sending": (BAD_SENDINGS, InvalidSending),
+}
+
+
 def faults(kind, good):
     """What is faulty for a kind of parameters: (argument, error, value) each."""
     if kind == "letters":
@@ -280,13 +326,8 @@ def faults(kind, good):
         rows = [[*good, bad, *good] for bad in BAD_WALKS] + [[bad, None, (0,), *good] for bad in BAD_WALKS]
         bads = BAD_WALKS * 2
         return [(row, InvalidWalk, bad) for row, bad in zip(rows, bads)]
-    if kind == "web":
-        return [(bad, InvalidWeb, bad) for bad in BAD_WEBS]
-    if kind in ("short", "book", "paper walks"):
-        bads, error = {
-            "short": (BAD_SHORTS, InvalidShort), "book": (BAD_BOOKS, InvalidBook),
-            "paper walks": (BAD_PAPER_WALKS, InvalidWalks),
-        }[kind]
+    if isinstance(kind, str) and kind in KINDS:
+        bads, error = KINDS[kind]
         return [(bad, error, bad) for bad in bads]
     if kind == "writing":
         bads = [*ODD_OBJECTS, (len(good) + 4,), (1, -5)]

@@ -7,7 +7,7 @@ import unittest
 
 from tests.helpers import (
     EVEN, HALF, NOTHING, WHOLE, look_at_answer, look_at_lists, look_at_refusals, renumbered, slow_back, slow_room,
-    slow_steps, some_lists, some_walk, some_web, web_of_turns,
+    slow_steps, some_lists, some_walk, some_web, turned_by, web_of_turns,
 )
 from walkclubs.bases import basis
 from walkclubs.indexes import above, all_webs, clubs_number, closed, closings, kept_webs, turned_classes
@@ -37,11 +37,6 @@ def rooted(web, home):
         for room in range(count)
     }
     return renumbered(web[0], table)
-
-
-def turned_by(web, walk):
-    """The web of all walks back the walk, then one of the club, then the walk."""
-    return web_of(web[0], [slow_back(walk) + member + walk for member in basis(web)])
 
 
 def holds_all(web, walks):

@@ -5,7 +5,7 @@ import unittest
 
 from tests.helpers import (
     EVEN, HALF, NOTHING, WHOLE, all_straight_to, look_at_answer, look_at_refusal, look_at_refusals, slow_back,
-    slow_room, slow_straight, slow_web, some_lists, some_straight, some_walk, some_web, web_of_turns,
+    slow_room, slow_straight, slow_web, some_straight, some_walk, some_web, web_of_turns, webs_with,
 )
 from walkclubs.bases import basis, put
 from walkclubs.errors import InvalidWalk, InvalidWeb, Unlike
@@ -18,13 +18,6 @@ FORTY = some_web(4, 40, random.Random(72))
 SIXTY = some_web(4, 60, random.Random(80))
 RING = web_of(2, [(1,) * 60])
 TWOS = (2, ((1, 1), (0, 0)))
-
-
-def webs_to_try(letters, seed, many=10):
-    rng = random.Random(seed)
-    folded = [web_of(letters, walks) for walks in some_lists(letters, many, seed, 5)]
-    closed = [some_web(letters, count, rng) for count in (1, 2, 3, 5)] if letters > 1 else [whole(1)]
-    return [*folded, *closed, nothing(letters), whole(letters)]
 
 
 def same_coset(web, one, other):
@@ -60,7 +53,7 @@ class Meet(unittest.TestCase):
     def test_walks_that_belong_to_both(self):
         for letters in (1, 2, 3):
             walks = all_straight_to(letters, {1: 12, 2: 5, 3: 3}[letters])
-            webs = webs_to_try(letters, letters)
+            webs = webs_with(letters, letters)
             for one in webs:
                 for other in webs[::2]:
                     web = meet(one, other)
@@ -118,7 +111,7 @@ class Meet(unittest.TestCase):
 class Join(unittest.TestCase):
     def test_walks_of_both(self):
         for letters in (1, 2, 3):
-            webs = webs_to_try(letters, 10 + letters, 7)
+            webs = webs_with(letters, 10 + letters, 7)
             for one in webs:
                 for other in webs[::2]:
                     look_at_answer(self, slow_web(letters, basis(one) + basis(other)), join, one, other)
@@ -144,7 +137,7 @@ class CommonCosets(unittest.TestCase):
         for letters in (1, 2, 3):
             most = {1: 10, 2: 5, 3: 3}[letters]
             walks = all_straight_to(letters, most)
-            webs = webs_to_try(letters, 20 + letters, 5)
+            webs = webs_with(letters, 20 + letters, 5)
             for one in webs:
                 for other in webs[::2]:
                     first, second = some_walk(letters, rng.randrange(5), rng), some_walk(letters, rng.randrange(5), rng)

@@ -79,14 +79,21 @@ class Fold:
         }
 
 
+def ways_along(steps, first, last, count):
+    """The ways that some steps go from a room to a room, by new rooms between them that are numbered from count on."""
+    passed = [first] + list(range(count, count + len(steps) - 1)) + [last]
+    return [
+        (room, step, ahead) if step > 0 else (ahead, -step, room)
+        for step, room, ahead in zip(steps, passed, passed[1:])
+    ]
+
+
 def petals_of(walks):
     """The petals of walks: the number of rooms, and the list of all ways."""
     count, ways = 1, []
     for walk in walks:
         steps = straightened(walk)
-        passed = [0] + list(range(count, count + len(steps) - 1)) + [0]
-        for step, room, ahead in zip(steps, passed, passed[1:]):
-            ways.append((room, step, ahead) if step > 0 else (ahead, -step, room))
+        ways.extend(ways_along(steps, 0, 0, count))
         count += max(0, len(steps) - 1)
     return count, ways
 

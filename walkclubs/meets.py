@@ -3,7 +3,7 @@
 from walkclubs.bases import basis_walks
 from walkclubs.checks import check_walk
 from walkclubs.webs import (
-    check_alike, checked_table, first_reached, folded, lengthened, numbered, size_of_basis, way_to,
+    check_alike, checked_table, first_reached, folded, lengthened, numbered, size_of_basis, trimmed, way_to,
 )
 
 HOME = (0, 0)
@@ -22,27 +22,12 @@ def paired(table, other_table):
     return pairs
 
 
-def trimmed(pairs):
-    """A table without the rooms but home from which less than two steps lead, left out again and again."""
-    kept = {pair: dict(steps) for pair, steps in pairs.items()}
-    waiting = [pair for pair in kept if len(kept[pair]) < 2]
-    while waiting:
-        pair = waiting.pop()
-        if pair != HOME and pair in kept:
-            for step, after in list(kept[pair].items()):
-                del kept[after][-step]
-                if len(kept[after]) < 2:
-                    waiting.append(after)
-            del kept[pair]
-    return kept
-
-
 def meet(one, other):
     """The web of the club of the walks that belong to two webs."""
     table = checked_table(one)
     other_table = checked_table(other)
     check_alike(one, other)
-    return numbered(one[0], trimmed(paired(table, other_table)), HOME)
+    return numbered(one[0], trimmed(paired(table, other_table), HOME), HOME)
 
 
 def join(one, other):

@@ -137,6 +137,24 @@ def lengthened(table, walks):
     return wider, ends
 
 
+def trimmed(table, home=None):
+    """A dict as of a table, without the rooms but home from which less than two steps lead, left out again and again.
+
+    If no home is told, none is spared.
+    """
+    kept = {room: dict(steps) for room, steps in table.items()}
+    waiting = [room for room in kept if len(kept[room]) < 2]
+    while waiting:
+        room = waiting.pop()
+        if room != home and room in kept:
+            for step, after in list(kept[room].items()):
+                del kept[after][-step]
+                if len(kept[after]) < 2:
+                    waiting.append(after)
+            del kept[room]
+    return kept
+
+
 def is_laid_into(web, table, wider):
     """Whether all walks that belong to a web, with its table, belong to the web of another table."""
     # They do exactly if its rooms can be laid onto rooms of the other one, home onto home, so that each way lies on
