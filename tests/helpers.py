@@ -255,6 +255,25 @@ def some_straight(letters, length, rng):
     return walk
 
 
+def some_book(letters, count, rng):
+    return letters, tuple(tuple(rng.sample(range(count), count)) for _ in range(letters))
+
+
+def great_short(letters, rng, count=8, steps=60):
+    return tuple(
+        (some_walk(letters, rng.randrange(steps + 1), rng), rng.choice([-1, 1]) * rng.randrange(1, 10 ** 30 + 1))
+        for _ in range(count)
+    )
+
+
+def some_shorts(letters, seed, many=20):
+    """Short writings of few parts and of many, with great times and small ones."""
+    rng = random.Random(seed)
+    great = [great_short(letters, rng, rng.randrange(1, 9), rng.choice([2, 6, 60])) for _ in range(many)]
+    small = [tuple((walk, times % 5 + 1 if times % 2 else -1 - times % 5) for walk, times in short) for short in great]
+    return [(), *great, *small, great_short(letters, rng, 60, 3)]
+
+
 def some_lists(letters, many, seed, longest=6, most=4):
     """So many lists of walks, from few short ones to more."""
     rng = random.Random(seed)

@@ -15,11 +15,11 @@ TREES = {path.name: ast.parse(path.read_text()) for path in FILES}
 
 BUILTINS = set(
     "len range enumerate zip min max sum abs sorted reversed int str bool list tuple dict set isinstance any all divmod"
-    " ValueError None True False".split()
+    " ValueError None True False property".split()
 )
 METHODS = set(
     "append clear copy count endswith extend find get index insert items join keys pop remove replace reverse"
-    " setdefault split startswith strip update values bit_length add discard".split()
+    " setdefault split startswith strip update values bit_length add discard partition".split()
 )
 NODES_NOT_USED = (
     ast.Global, ast.Nonlocal, ast.AsyncFunctionDef, ast.Await, ast.GeneratorExp, ast.NamedExpr, ast.Div, ast.Try,
@@ -72,8 +72,7 @@ class Language(unittest.TestCase):
             for node in ast.walk(tree):
                 if isinstance(node, ast.FunctionDef):
                     self.assertLessEqual(node.end_lineno - node.lineno + 1, 40, f"{name}: {node.name}")
-                    self.assertEqual(node.decorator_list, [])
-                    self.assertTrue(node.name == "__init__" or ast.get_docstring(node), f"{name}: {node.name}")
+                    self.assertTrue(node.name.startswith("__") or ast.get_docstring(node), f"{name}: {node.name}")
 
     def test_imports(self):
         for name, tree in TREES.items():
@@ -178,6 +177,38 @@ class Language(unittest.TestCase):
                         if isinstance(node, ast.Call) and getattr(node.func, "id", None) in once:
                             words = {part.id for part in node.args if isinstance(part, ast.Name)}
                             self.assertFalse(words & kept, f"{name}: {function.name}")
+
+    def test_classes(self):
+        classes = [node for tree in TREES.values() for node in tree.body if isinstance(node, ast.ClassDef)]
+        methods = [(kind, part) for kind in classes for part in kind.body if isinstance(part, ast.FunctionDef)]
+        functions = [node for tree in TREES.values() for node in ast.walk(tree) if isinstance(node, ast.FunctionDef)]
+        properties = set()
+        for function in functions:
+            for sign in function.decorator_list:
+                self.assertEqual(ast.unparse(sign), "property")
+                self.assertIn(function, [part for _, part in methods])
+                self.assertEqual([part.arg for part in function.args.args], ["self"])
+                properties.add(function.name)
+        plain = {part.name for _, part in methods if not part.decorator_list}
+        own = {name for name in plain if name.startswith("__")}
+        self.assertLessEqual(own, {"__init__", "__eq__", "__len__"})
+        stored = {
+            (kind.name, node.attr) for kind in classes for node in ast.walk(kind)
+            if isinstance(node, ast.Attribute) and isinstance(node.ctx, ast.Store)
+        }
+        self.assertFalse(properties & plain)
+        self.assertFalse(properties & {name for _, name in stored})
+        self.assertFalse({name for _, name in stored} & plain)
+        for kind in (str, int, list, dict, set, tuple, bytes):
+            self.assertFalse(properties & set(dir(kind)))
+            self.assertFalse((plain - own) & set(dir(kind)))
+        for _, method in methods:
+            if method.name in properties | {"__eq__", "__len__"}:
+                self.assertIsInstance(method.body[-1], ast.Return)
+                for node in ast.walk(method):
+                    self.assertNotIsInstance(node, (ast.Assign, ast.AugAssign, ast.Delete))
+                    if isinstance(node, ast.Call):
+                        self.assertIn(node.func.id, ("len", "tuple", "isinstance"))
 
     def test_one_docstring_for_each_file(self):
         for name, tree in TREES.items():

@@ -4,8 +4,9 @@ import random
 import unittest
 
 from tests.helpers import (
-    BAD_SHORTS, BAD_WALKS, EVEN, HALF, NOTHING, ODD_OBJECTS, WHOLE, look_at_answer, look_at_lists, look_at_refusal,
-    look_at_refusals, slow_back, slow_room, slow_straight, some_lists, some_straight, some_walk, some_web,
+    BAD_SHORTS, BAD_WALKS, EVEN, HALF, NOTHING, ODD_OBJECTS, WHOLE, great_short, look_at_answer, look_at_lists,
+    look_at_refusal, look_at_refusals, slow_back, slow_room, slow_straight, some_lists, some_straight, some_walk,
+    some_web,
 )
 from walkclubs.errors import InvalidNumber, InvalidShort
 from walkclubs.shorts import (
@@ -57,13 +58,6 @@ def some_short(letters, rng, most=12):
             walk = lead + walk + slow_back(lead)
         parts.append((walk, rng.choice([-1, 1]) * rng.randrange(1, most)))
     return tuple(parts)
-
-
-def great_short(letters, rng, count=8, steps=60):
-    return tuple(
-        (some_walk(letters, rng.randrange(steps + 1), rng), rng.choice([-1, 1]) * rng.randrange(1, 10 ** 30 + 1))
-        for _ in range(count)
-    )
 
 
 class Examples(unittest.TestCase):

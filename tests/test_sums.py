@@ -77,9 +77,10 @@ def measure(rows, count):
     """What all determinants of so many rows, at so many places, have in common: alike for one lattice."""
     if not rows:
         return 1
+    all_places = list(itertools.combinations(range(len(rows[0])), count))
     return math.gcd(*[
         determinant([tuple(row[place] for place in places) for row in chosen])
-        for chosen in itertools.combinations(rows, count) for places in itertools.combinations(range(len(rows[0])), count)
+        for chosen in itertools.combinations(rows, count) for places in all_places
     ])
 
 

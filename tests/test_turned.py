@@ -119,7 +119,8 @@ class LeadsInto(unittest.TestCase):
 
     def test_clubs_that_are_turned_far(self):
         rng = random.Random(4)
-        for web in (HALF, EVEN, TWOS, APART, THREES, TWELVE, RING, SIXTY, NOTHING, WHOLE, web_of(3, [(1, 2, 3), (3, 3)])):
+        threes = web_of(3, [(1, 2, 3), (3, 3)])
+        for web in (HALF, EVEN, TWOS, APART, THREES, TWELVE, RING, SIXTY, NOTHING, WHOLE, threes):
             for length in (1, 3, 8, 60, 400):
                 walk = some_straight(web[0], length, rng)
                 there = turned(web, walk)

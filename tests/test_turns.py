@@ -7,7 +7,8 @@ import unittest
 
 from tests.helpers import (
     BAD_BOOKS, EVEN, HALF, NOTHING, ODD_OBJECTS, WHOLE, all_straight_to, look_at_answer, look_at_refusal,
-    look_at_refusals, renumbered, slow_back, slow_led, slow_room, slow_steps, some_straight, some_walk, some_web,
+    look_at_refusals, renumbered, slow_back, slow_led, slow_room, slow_steps, some_book, some_straight,
+    some_walk, some_web,
 )
 from walkclubs.bases import basis
 from walkclubs.errors import OpenDoor, TooMany
@@ -20,10 +21,6 @@ THREE = (2, ((1, 0, 2), (0, 2, 1)))
 ONE = (1, ((0,),))
 FORTY = (1, (tuple([*range(1, 40), 0]),))
 SIX = (2, ((1, 2, 3, 4, 5, 0), (1, 0, 2, 3, 4, 5)))
-
-
-def some_book(letters, count, rng):
-    return letters, tuple(tuple(rng.sample(range(count), count)) for _ in range(letters))
 
 
 def some_books(seed):
