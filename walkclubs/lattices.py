@@ -5,7 +5,7 @@ def plus(row, times, other):
     return tuple([number + times * more for number, more in zip(row, other)])
 
 
-def product(row, other):
+def product_of(row, other):
     """The sum of the products of the numbers of two rows, place by place."""
     return sum([number * more for number, more in zip(row, other)])
 
@@ -71,7 +71,7 @@ def nearer(row, others):
     while changed:
         changed = False
         for other in others:
-            size, part = product(other, other), product(row, other)
+            size, part = product_of(other, other), product_of(row, other)
             if 2 * abs(part) > size:
                 row = plus(row, -((2 * part + size) // (2 * size)), other)
                 changed = True
@@ -92,7 +92,7 @@ def with_factors(least, factors, products):
     """Factors, told but at the places at which least rows begin, of which the products with these rows are told."""
     told = list(factors)
     for row, number in reversed(list(zip(least, products))):
-        told[leading_place(row)] = (number - product(row, told)) // row[leading_place(row)]
+        told[leading_place(row)] = (number - product_of(row, told)) // row[leading_place(row)]
     return tuple(told)
 
 

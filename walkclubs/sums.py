@@ -4,7 +4,7 @@ from walkclubs.bases import basis_walks
 from walkclubs.checks import anew, check_letters, check_walk, is_integer
 from walkclubs.errors import InvalidRows, InvalidSums
 from walkclubs.lattices import (
-    all_nearer, bars_of, classes_of, least_rows, less_leading, nearer, plus, product, stepped,
+    all_nearer, bars_of, classes_of, least_rows, less_leading, nearer, plus, product_of, stepped,
 )
 from walkclubs.walks import steps_of, straightened, turned_back, walk_order
 from walkclubs.webs import checked_table, numbered
@@ -61,7 +61,7 @@ def times_wanted(letters, walks, wanted):
 def bars_sums(least, wanted, bar):
     """Whether a tuple (modulus, factors) bars what is wanted from the lattice with these least rows."""
     modulus, factors = bar
-    rests = [product(factors, row) for row in least + [wanted]]
+    rests = [product_of(factors, row) for row in least + [wanted]]
     if modulus > 0:
         rests = [rest % modulus for rest in rests]
     return rests[-1] != 0 and all([rest == 0 for rest in rests[:-1]])
